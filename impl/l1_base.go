@@ -1,6 +1,11 @@
 // Package impl: flight plans, filed, changed and withdrawn, and what they come to.
 package impl
 
+import (
+	"slices"
+	"strings"
+)
+
 // Limits of what plans stand on.
 const (
 	PlanMaxName   = 8
@@ -122,4 +127,23 @@ func cellTaken(points []PlanPoint, p PlanPoint) bool {
 		}
 	}
 	return false
+}
+
+func sameBase(a, b PlanBase) bool {
+	return slices.Equal(a.Kinds, b.Kinds) && slices.Equal(a.Points, b.Points)
+}
+
+// copyBase copies names as well as lists: an answer shares no memory with an
+// argument.
+func copyBase(b PlanBase) PlanBase {
+	var c PlanBase
+	for _, k := range b.Kinds {
+		k.Name = strings.Clone(k.Name)
+		c.Kinds = append(c.Kinds, k)
+	}
+	for _, p := range b.Points {
+		p.Name = strings.Clone(p.Name)
+		c.Points = append(c.Points, p)
+	}
+	return c
 }

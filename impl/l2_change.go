@@ -54,7 +54,7 @@ var saidWords = [...]saidWord{
 }
 
 // fitRule tells what fits one thing that is said. A rule may rely on the base
-// being ok: PlanFits asks for that ahead of it.
+// being ok: every call that comes to it asks for that ahead.
 type fitRule interface {
 	fits(b PlanBase, value string) bool
 }
@@ -177,13 +177,23 @@ func readDecimal(s string) (int, bool) {
 
 // PlanFits says whether a value fits.
 func PlanFits(b PlanBase, what int, value string) bool {
-	rule, known := fitRules[what]
-	return known && PlanBaseOk(b) && rule.fits(b, value)
+	return PlanBaseOk(b) && valueFits(b, what, value)
 }
 
 // PlanChangeOk says whether a change is ok.
 func PlanChangeOk(b PlanBase, c PlanChange) bool {
-	return nameOk(c.Flight) && numberOk(c.Number) && PlanFits(b, c.What, c.Value)
+	return PlanBaseOk(b) && changeFits(b, c)
+}
+
+// changeFits is for a base that is known to be ok: a book asks it once a
+// field, and its base is looked at once.
+func changeFits(b PlanBase, c PlanChange) bool {
+	return nameOk(c.Flight) && numberOk(c.Number) && valueFits(b, c.What, c.Value)
+}
+
+func valueFits(b PlanBase, what int, value string) bool {
+	rule, known := fitRules[what]
+	return known && rule.fits(b, value)
 }
 
 // PlanForm is the form of a change.
