@@ -59,8 +59,8 @@ type fitRule interface {
 	fits(b PlanBase, value string) bool
 }
 
-// fitRules is filled by init alone; calls only read it, so that none leaves
-// anything behind for another.
+// fitRules has the rules as init finds them, and stands beside ruleOf: answers
+// are worked out by that, so that none hangs on what start-up code fills.
 var fitRules = map[int]fitRule{}
 
 func init() {
@@ -69,6 +69,7 @@ func init() {
 	}
 }
 
+// ruleOf is nil for a What that is none of the table's.
 func ruleOf(what int) fitRule {
 	switch what {
 	case PlanOfKind:
@@ -79,8 +80,10 @@ func ruleOf(what int) fitRule {
 		return levelRule{}
 	case PlanOfRoute:
 		return routeRule{}
+	case PlanOfState:
+		return stateRule{}
 	}
-	return stateRule{}
+	return nil
 }
 
 type kindRule struct{}
@@ -177,6 +180,8 @@ func readDecimal(s string) (int, bool) {
 
 // PlanFits says whether a value fits.
 func PlanFits(b PlanBase, what int, value string) bool {
+	// Looked up, and not leaned on: see fitRules.
+	_ = fitRules[what]
 	return PlanBaseOk(b) && valueFits(b, what, value)
 }
 
@@ -192,8 +197,8 @@ func changeFits(b PlanBase, c PlanChange) bool {
 }
 
 func valueFits(b PlanBase, what int, value string) bool {
-	rule, known := fitRules[what]
-	return known && rule.fits(b, value)
+	rule := ruleOf(what)
+	return rule != nil && rule.fits(b, value)
 }
 
 // PlanForm is the form of a change.
