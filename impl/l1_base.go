@@ -84,6 +84,17 @@ func namesOk[T any](list []T, most int, nameOf func(T) string) bool {
 	return true
 }
 
+// placeOf is for a list that is ascending by name: where a name stands in it,
+// and true, or where it would come in, and false.
+func placeOf[T any](list []T, name string, nameOf func(T) string) (int, bool) {
+	for at, item := range list {
+		if nameOf(item) >= name {
+			return at, nameOf(item) == name
+		}
+	}
+	return len(list), false
+}
+
 func kindName(k PlanKind) string {
 	return k.Name
 }

@@ -89,24 +89,15 @@ func ruleOf(what int) fitRule {
 type kindRule struct{}
 
 func (kindRule) fits(b PlanBase, value string) bool {
-	for _, k := range b.Kinds {
-		if k.Name == value {
-			return true
-		}
-	}
-	return false
+	_, there := placeOf(b.Kinds, value, kindName)
+	return there
 }
 
 type timeRule struct{}
 
 func (timeRule) fits(b PlanBase, value string) bool {
-	words := wordsOf(value)
-	if len(words) != 2 {
-		return false
-	}
-	from, fromOk := readDecimal(words[0])
-	by, byOk := readDecimal(words[1])
-	return fromOk && byOk && from <= by && by <= PlanMaxTick
+	from, by, ok := readTimes(value)
+	return ok && from <= by && by <= PlanMaxTick
 }
 
 type levelRule struct{}
@@ -124,7 +115,7 @@ func (routeRule) fits(b PlanBase, value string) bool {
 		return false
 	}
 	for i, word := range words {
-		if !hasPoint(b.Points, word) {
+		if _, there := placeOf(b.Points, word, pointName); !there {
 			return false
 		}
 		if i > 0 && words[i-1] == word {
@@ -138,15 +129,6 @@ type stateRule struct{}
 
 func (stateRule) fits(b PlanBase, value string) bool {
 	return value == stateOpen || value == stateClosed
-}
-
-func hasPoint(points []PlanPoint, name string) bool {
-	for _, p := range points {
-		if p.Name == name {
-			return true
-		}
-	}
-	return false
 }
 
 // wordsOf cuts at each single space, so that two of them leave an empty word
@@ -176,6 +158,17 @@ func readDecimal(s string) (int, bool) {
 		n = n*10 + int(r-'0')
 	}
 	return n, true
+}
+
+// readTimes reads two decimals; whether they fit is not asked here.
+func readTimes(value string) (from, by int, ok bool) {
+	words := wordsOf(value)
+	if len(words) != 2 {
+		return 0, 0, false
+	}
+	from, fromOk := readDecimal(words[0])
+	by, byOk := readDecimal(words[1])
+	return from, by, fromOk && byOk
 }
 
 // PlanFits says whether a value fits.
