@@ -110,7 +110,12 @@ func (levelRule) fits(b PlanBase, value string) bool {
 type routeRule struct{}
 
 func (routeRule) fits(b PlanBase, value string) bool {
-	words := wordsOf(value)
+	return routeFits(b, wordsOf(value))
+}
+
+// routeFits takes words and not a value, so that a route that comes as a list
+// is held to the same rule: a word with a space in it names no point.
+func routeFits(b PlanBase, words []string) bool {
 	if len(words) < leastRoute || len(words) > PlanMaxRoute {
 		return false
 	}
