@@ -2,6 +2,7 @@ package tests
 
 import (
 	"fmt"
+	"math"
 	"math/rand"
 	"slices"
 	"strconv"
@@ -199,6 +200,32 @@ func TestPathInABookThatIsNotOk(t *testing.T) {
 		broken.Entries = append(slices.Clone(broken.Entries), allSaid("z"))
 		for _, name := range []string{"kl1", "z", "b", "f00", ""} {
 			checkPathCode(t, what, broken, name, 1)
+		}
+	}
+}
+
+// Numbers below 0 and very great ones make a book that is not ok, whether the flight needs them or not.
+func TestPathWithNumbersFarAway(t *testing.T) {
+	for _, far := range []int{math.MinInt, math.MinInt + 1, -1000000, -1, 1000000, math.MaxInt - 1, math.MaxInt} {
+		for what, spoil := range map[string]func(b *impl.PlanBook){
+			"Quick":             func(b *impl.PlanBook) { b.Base.Kinds[1].Quick = far },
+			"Slow":              func(b *impl.PlanBook) { b.Base.Kinds[1].Slow = far },
+			"another's Slow":    func(b *impl.PlanBook) { b.Base.Kinds[0].Slow = far },
+			"X":                 func(b *impl.PlanBook) { b.Base.Points[0].X = far },
+			"Y":                 func(b *impl.PlanBook) { b.Base.Points[2].Y = far },
+			"another point's X": func(b *impl.PlanBook) { b.Base.Points[1].X = far },
+			"Number": func(b *impl.PlanBook) {
+				b.Entries[0].Fields[1].Number = far
+				if far == impl.PlanMaxNumber {
+					b.Entries[0].Fields[1].Number++
+				}
+			},
+			"time":  func(b *impl.PlanBook) { b.Entries[0].Fields[1].Value = fmt.Sprint("0 ", far) },
+			"level": func(b *impl.PlanBook) { b.Entries[0].Fields[2].Value = strconv.Itoa(far) },
+		} {
+			book := wayBook(sampleBase(), "jet", "5 6", "4", "a b")
+			spoil(&book)
+			checkPathCode(t, what, book, "k", 1)
 		}
 	}
 }
